@@ -1,0 +1,1 @@
+"""A house of students who share rooms, two and two."""
