@@ -121,16 +121,16 @@ def hs_take(state, given):
     return [count_pairs(state.has)] + told(state.has)
 
 
-# By a call's number: what it does, how many whole numbers it has, how many rows.
+# By a call's number: what it does, how many whole numbers it has, and whether it has a row.
 CHANGES = (
-    (hs_start, 1, 0),
-    (hs_wish, 2, 1),
-    (hs_in, 1, 1),
-    (hs_away, 0, 0),
-    (hs_pair, 2, 0),
-    (hs_part, 1, 0),
-    (hs_break, 2, 0),
-    (hs_step, 0, 0),
-    (hs_settle, 0, 0),
-    (hs_take, 1, 0),
+    (hs_start, 1, False),
+    (hs_wish, 2, True),
+    (hs_in, 1, True),
+    (hs_away, 0, False),
+    (hs_pair, 2, False),
+    (hs_part, 1, False),
+    (hs_break, 2, False),
+    (hs_step, 0, False),
+    (hs_settle, 0, False),
+    (hs_take, 1, False),
 )

@@ -12,32 +12,33 @@ def answers(calls):
     at = 0
     while at < len(calls):
         form = form_of(calls[at])
-        given = what_is_given(calls, at + 1, form)
-        answer = form[0](state, given)
+        end = end_of_call(calls, at, form)
+        answer = form[0](state, what_is_given(calls, at, end, form))
         given_back.append(len(answer))
         given_back.extend(answer)
-        at += 1 + length_of(given)
+        at = end
     return given_back
 
 
 def form_of(number):
-    """What the call of this number does, and how many numbers and rows it has."""
+    """What the call of this number does, how many whole numbers it has, and whether it has a row."""
     if number < len(CHANGES):
         return CHANGES[number]
     return QUESTIONS[number - len(CHANGES)]
 
 
-def what_is_given(calls, at, form):
-    """The call's whole numbers from this place on, then its rows, as lists of their own."""
-    given = calls[at:at + form[1]]
-    at += form[1]
-    for turn in range(form[2]):
-        count = calls[at]
-        given.append(calls[at + 1:at + 1 + count])
-        at += 1 + count
+def end_of_call(calls, at, form):
+    """The place behind the call that begins at this place."""
+    end = at + 1 + form[1]
+    if form[2]:
+        end += 1 + calls[end]
+    return end
+
+
+def what_is_given(calls, at, end, form):
+    """The call's whole numbers, then its row, if it has one, as a list of its own."""
+    row_at = at + 1 + form[1]
+    given = calls[at + 1:row_at]
+    if form[2]:
+        given.append(calls[row_at + 1:end])
     return given
-
-
-def length_of(given):
-    """How many numbers it took to hand this in."""
-    return sum([1 + len(part) if isinstance(part, list) else 1 for part in given])

@@ -54,12 +54,12 @@ def hs_most(state, given):
     return [count_pairs(best)] + told(best)
 
 
-# By a call's number, behind the changes: what it does, how many whole numbers it has, how many rows.
+# By a call's number, behind the changes: what it does, how many whole numbers it has, and whether it has a row.
 QUESTIONS = (
-    (hs_holds, 0, 0),
-    (hs_steps, 0, 0),
-    (hs_nth, 1, 0),
-    (hs_votes, 0, 1),
-    (hs_out, 0, 0),
-    (hs_most, 0, 0),
+    (hs_holds, 0, False),
+    (hs_steps, 0, False),
+    (hs_nth, 1, False),
+    (hs_votes, 0, True),
+    (hs_out, 0, False),
+    (hs_most, 0, False),
 )

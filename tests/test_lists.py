@@ -149,6 +149,7 @@ class In(HouseCase):
         before = house(TWO_HOLD, [(0, 2)])
         for count in (6, 7, TOP):
             self.refused(before, 4, ("hs_in", count, [0, 1, 2, 3, 4]), -22)
+            self.refused([("hs_start", 5)], 5, ("hs_in", count, [0, 1, 2, 3, 4]), -22)
         for other in (4, 5, 6, TOP):
             self.refused(before, 4, ("hs_in", 1, [other, 0, 0, 0, 0]), -22)
             self.refused(before, 4, ("hs_in", 5, [0, 1, 2, 3, other]), -22)
