@@ -1,6 +1,7 @@
 """The calls on one house, as one list of whole numbers."""
 
 from studenthouse.changes import CHANGES
+from studenthouse.history import HISTORY
 from studenthouse.questions import QUESTIONS
 from studenthouse.state import State
 
@@ -22,9 +23,7 @@ def answers(calls):
 
 def form_of(number):
     """What the call of this number does, how many whole numbers it has, and whether it has a row."""
-    if number < len(CHANGES):
-        return CHANGES[number]
-    return QUESTIONS[number - len(CHANGES)]
+    return (CHANGES + QUESTIONS + HISTORY)[number]
 
 
 def end_of_call(calls, at, form):

@@ -127,10 +127,31 @@ def votes_out(wishes, has, before):
     return count_gladder(wishes, has, before) > count_gladder(wishes, before, has)
 
 
+def is_voted_out(wishes, before, pairings):
+    """Whether one of these pairings votes out the one before.
+
+    The last ones are looked at first: they have more pairs, and so are
+    more often the ones that do.
+    """
+    for has in reversed(pairings):
+        if votes_out(wishes, has, before):
+            return True
+    return False
+
+
+def never_voted_out(wishes):
+    """All pairings that aren't voted out by any, in order."""
+    pairings = every_pairing(wishes)
+    return [has for has in pairings if not is_voted_out(wishes, has, pairings)]
+
+
 def with_most_pairs(wishes):
-    """The first of the pairings that have the most pairs."""
-    best = all_alone(wishes.number)
-    for has in every_pairing(wishes):
-        if count_pairs(has) > count_pairs(best):
-            best = has
-    return best
+    """All pairings that have the most pairs, in order."""
+    pairings = every_pairing(wishes)
+    most = max([count_pairs(has) for has in pairings])
+    return [has for has in pairings if count_pairs(has) == most]
+
+
+def who_is_alone(has):
+    """The students who are alone in this pairing."""
+    return [student for student in range(len(has)) if is_alone(has, student)]

@@ -25,6 +25,10 @@ class Wishes:
         """Whether these two would share."""
         return would_share(self.lists, one, other)
 
+    def rather(self, student, one, other):
+        """Whether the student would rather have the one than the other (themself: be alone)."""
+        return self.ranks[student][one] < self.ranks[student][other]
+
     def with_list(self, student, wanted):
         """The wishes when this student has another list."""
         lists = list(self.lists)

@@ -7,12 +7,17 @@ from studenthouse.house import answers
 
 NAMES = [
     "hs_start", "hs_wish", "hs_in", "hs_away", "hs_pair", "hs_part", "hs_break", "hs_step", "hs_settle",
-    "hs_take", "hs_holds", "hs_steps", "hs_nth", "hs_votes", "hs_out", "hs_most",
+    "hs_take", "hs_holds", "hs_steps", "hs_nth", "hs_votes", "hs_out", "hs_most", "hs_lost", "hs_why", "hs_may",
+    "hs_good", "hs_rings", "hs_alone", "hs_best", "hs_rather", "hs_breakers", "hs_with", "hs_look", "hs_all",
+    "hs_back", "hs_again", "hs_state",
 ]
+# Those that are changes, unless they are refused.
+CHANGING = NAMES[1:10]
 TOP = 4294967295
 OUT_OF = {
-    "hs_wish": 1, "hs_away": 1, "hs_break": 1, "hs_nth": 1, "hs_step": 2, "hs_votes": 2,
-    "hs_settle": 6, "hs_take": 6, "hs_out": 6, "hs_most": 6,
+    "hs_wish": 1, "hs_away": 1, "hs_break": 1, "hs_nth": 1, "hs_lost": 1, "hs_why": 1, "hs_may": 1, "hs_alone": 1,
+    "hs_rather": 1, "hs_step": 2, "hs_votes": 2, "hs_good": 2, "hs_breakers": 2, "hs_state": 2, "hs_look": 5,
+    "hs_settle": 6, "hs_take": 6, "hs_out": 6, "hs_most": 6, "hs_rings": 6, "hs_all": 6,
 }
 
 # Houses in which no pairing holds: each of three would rather have the next one.
@@ -27,6 +32,10 @@ THREE_HOLD = [[3, 4, 5], [4, 5, 3], [5, 3, 4], [1, 2, 0], [2, 0, 1], [0, 1, 2]]
 # One pairing holds, and from these pairs no fewer than four breaks lead to it.
 LONG_WAY = [[4, 3, 2, 5, 1], [0, 3, 2, 5, 4], [1, 5, 4, 0, 3], [2, 1, 4, 0, 5], [2, 3, 1, 5, 0], [3, 4, 1, 2, 0]]
 LONG_WAY_PAIRS = [(0, 5), (1, 2), (3, 4)]
+# Two stars whose middles would share as well; what is alone may be so in many ways.
+TWO_STARS = [[1, 4, 5], [0, 2, 3], [1], [1], [0], [0]]
+# The two in the middle would rather have each other, so the one pairing that holds has one pair of two.
+MIDDLE_HOLDS = [[1], [2, 0], [1, 3], [2]]
 ALL_OTHERS = [[other for other in range(6) if other != student] for student in range(6)]
 
 
@@ -78,19 +87,20 @@ def house(lists, pairs=()):
     return calls
 
 
+def seen(number):
+    """Calls that tell all lists and pairs, and how many changes there are."""
+    return [("hs_state",), ("hs_all",)] + [("hs_look", student) for student in range(number)]
+
+
 def probe(number):
-    """Calls that tell in what state the house is: its lists and its pairs."""
-    calls = [("hs_holds",), ("hs_steps",), ("hs_nth", 0), ("hs_out",), ("hs_most",)]
-    for one, other in itertools.combinations(range(number), 2):
-        told = [0] * 6
-        told[one] = other + 1
-        told[other] = one + 1
-        calls.append(("hs_votes", told))
-    calls.append(("hs_votes", [0] * 6))
+    """Calls that tell in what state the house is: its lists, its pairs and its changes."""
+    calls = seen(number)
+    for call in ("hs_back", "hs_again"):
+        for turn in range(21):
+            calls += [(call,)] + seen(number)
+    calls += [("hs_holds",), ("hs_steps",), ("hs_nth", 0), ("hs_out",), ("hs_most",), ("hs_rings",)]
     calls += [("hs_part", student) for student in range(number)]
     calls += [("hs_pair", one, other) for one, other in itertools.combinations(range(number), 2)]
-    calls += [("hs_take", 0)]
-    calls += [wish(student, []) for student in range(number)]
     calls += [("hs_away",)] * (number + 1)
     return calls
 
@@ -127,9 +137,19 @@ class PlainHouse:
     def __init__(self):
         self.lists = []
         self.pairs = frozenset()
+        self.past = []
+        self.undone = []
 
     def answer(self, call):
-        return getattr(self, call[0])(*call[1:])
+        before = self.copied()
+        answer = getattr(self, call[0])(*call[1:])
+        if call[0] in CHANGING and answer[0] >= 0:
+            self.past = (self.past + [before])[-20:]
+            self.undone = []
+        return answer
+
+    def copied(self):
+        return [list(others) for others in self.lists], self.pairs
 
     def missing(self, *students):
         return any(student >= len(self.lists) for student in students)
@@ -215,6 +235,8 @@ class PlainHouse:
             return [-22]
         self.lists = [[] for student in range(count)]
         self.pairs = frozenset()
+        self.past = []
+        self.undone = []
         return [0]
 
     def hs_wish(self, student, count, row):
@@ -329,3 +351,141 @@ class PlainHouse:
     def hs_most(self):
         most = max(len(pairs) for pairs in self.every_pairing())
         return [most] + self.told(next(pairs for pairs in self.every_pairing() if len(pairs) == most))
+
+    def most(self):
+        """All pairings with the most pairs."""
+        pairings = self.every_pairing()
+        return [pairs for pairs in pairings if all(len(pairs) >= len(others) for others in pairings)]
+
+    def alone(self, pairs):
+        return [student for student in range(len(self.lists)) if self.mate(pairs, student) is None]
+
+    def bits(self, students):
+        return sum(2 ** student for student in set(students))
+
+    def hs_lost(self):
+        if not self.holding():
+            return [-33]
+        pairs = len(self.holding()[0])
+        return [len(self.most()[0]) - pairs, pairs]
+
+    def part(self, among, student):
+        """Those who hang together with the student."""
+        part = {student}
+        while True:
+            more = {other for other in among for one in part if self.share(one, other)} - part
+            if not more:
+                return frozenset(part)
+            part |= more
+
+    def beyond(self, chosen):
+        others = set(range(len(self.lists))) - chosen
+        parts = {self.part(others, student) for student in others}
+        return sum(len(part) % 2 for part in parts) - len(chosen)
+
+    def hs_why(self):
+        everybody = range(len(self.lists))
+        sets = [set(some) for count in range(7) for some in itertools.combinations(everybody, count)]
+        told = sets[0]
+        for chosen in sets[1:]:
+            more = self.beyond(chosen) - self.beyond(told)
+            if more > 0 or (more == 0 and min(chosen ^ told) not in chosen):
+                told = chosen
+        return [self.beyond(told), self.bits(told)]
+
+    def hs_may(self):
+        may = set(sum([self.alone(pairs) for pairs in self.most()], []))
+        return [len(may), self.bits(may)]
+
+    def hs_good(self):
+        pairings = self.every_pairing()
+        good = [
+            pairs for pairs in pairings
+            if not any(self.votes(others, pairs) > self.votes(pairs, others) for others in pairings)
+        ]
+        return [len(self.holding()), len(good), len(pairings)]
+
+    def rings_hold(self, nexts):
+        before = [nexts.index(student) for student in range(len(nexts))]
+        for student, other in enumerate(nexts):
+            if other != student:
+                if not self.share(student, other) or not self.share(student, before[student]):
+                    return False
+                if other != before[student] and not self.rather(student, other, before[student]):
+                    return False
+        had = [None if before[student] == student else before[student] for student in range(len(nexts))]
+        return not any(
+            self.rather(one, other, had[one]) and self.rather(other, one, had[other]) for one, other in self.twos()
+        )
+
+    def ring(self, nexts, student):
+        ring = [student]
+        while nexts[ring[-1]] != student:
+            ring.append(nexts[ring[-1]])
+        return ring
+
+    def hs_rings(self):
+        count = len(self.lists)
+        nexts = next(nexts for nexts in itertools.permutations(range(count)) if self.rings_hold(nexts))
+        sizes = [len(self.ring(nexts, student)) for student in range(count)]
+        odd = sizes.count(3) // 3 + sizes.count(5) // 5
+        return [odd] + [other + 1 for other in nexts] + [0] * (6 - count)
+
+    def hs_alone(self):
+        if not self.holding():
+            return [-33]
+        alone = self.alone(self.holding()[0])
+        return [len(alone), self.bits(alone)]
+
+    def hs_best(self, student):
+        if self.missing(student):
+            return [-2]
+        if not self.holding():
+            return [-33]
+        mates = [self.mate(pairs, student) for pairs in self.holding()]
+        for mate in self.lists[student]:
+            if mate in mates:
+                return [mate]
+        return [student]
+
+    def hs_rather(self, place):
+        if place >= len(self.holding()):
+            return [-2]
+        pairs = self.holding()[place]
+        return [self.votes(pairs, self.pairs), self.votes(self.pairs, pairs)]
+
+    def hs_breakers(self):
+        breakers = self.breakers(self.pairs)
+        return [len(breakers), *(breakers[0] if breakers else (0, 0))]
+
+    def hs_with(self, student):
+        if self.missing(student):
+            return [-2]
+        mate = self.mate(self.pairs, student)
+        return [-6 if mate is None else mate]
+
+    def hs_look(self, student):
+        if self.missing(student):
+            return [-2]
+        wanted = self.lists[student]
+        return [len(wanted)] + ([other + 1 for other in wanted] + [0] * 5)[:5]
+
+    def hs_all(self):
+        return [len(self.pairs)] + self.told(self.pairs)
+
+    def hs_back(self):
+        if not self.past:
+            return [-2]
+        self.undone.append(self.copied())
+        self.lists, self.pairs = self.past.pop()
+        return [len(self.past)]
+
+    def hs_again(self):
+        if not self.undone:
+            return [-2]
+        self.past.append(self.copied())
+        self.lists, self.pairs = self.undone.pop()
+        return [len(self.undone)]
+
+    def hs_state(self):
+        return [len(self.lists), len(self.past), len(self.undone)]

@@ -7,7 +7,8 @@ from helper import NAMES, PlainHouse, TOP, run
 
 LINES = 400
 CALLS = 60
-WEIGHTS = [0.3, 8, 2, 1, 6, 2, 5, 3, 1, 2, 1, 2, 2, 3, 2, 1]
+# How often each call comes, by its number; those that take the plain house long come seldom.
+WEIGHTS = [0.3, 8, 2, 1, 6, 2, 5, 3, 1, 2, 1, 1, 2, 3, 1, 1, 1, 1, 1, 0.3, 1, 1, 2, 2, 1, 1, 2, 1, 8, 6, 2]
 NO_STUDENTS = [6, 7, 2147483648, TOP]
 
 
@@ -63,9 +64,9 @@ def some_call(chance, plain):
         return (name, *some_list(chance, list(range(count))))
     if name in ("hs_pair", "hs_break"):
         return (name, *some_two(chance, plain))
-    if name == "hs_part":
+    if name in ("hs_part", "hs_best", "hs_with", "hs_look"):
         return (name, some_student(chance, count))
-    if name in ("hs_take", "hs_nth"):
+    if name in ("hs_take", "hs_nth", "hs_rather"):
         return (name, chance.choice([0, 0, 0, 1, 1, 2, 3, 4, TOP]))
     if name == "hs_votes":
         return (name, some_row(chance, plain))

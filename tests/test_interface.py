@@ -5,9 +5,14 @@ import io
 import sys
 import unittest
 
-from helper import ALL_OTHERS, LONG_WAY, LONG_WAY_PAIRS, NAMES, NONE_OF_SIX, OUT_OF, PlainHouse, TOP, TWO_HOLD
-from helper import decode, encode, house, run, wish
+from helper import ALL_OTHERS, LONG_WAY, LONG_WAY_PAIRS, NAMES, NONE_OF_SIX, OUT_OF, PlainHouse
+from helper import RING_OF_THREE, TOP, TWO_HOLD, TWO_STARS, decode, encode, house, run, wish
 from studenthouse.house import answers
+
+# Pairings of which many are voted out, but by few others.
+SLOW_VOTES = [[1, 2, 3, 4, 5], [0, 3, 4, 5, 2], [0, 4, 3, 1, 5], [5, 0, 4, 2, 1], [3, 1, 5, 0, 2], [4, 1, 3, 2, 0]]
+# Many rings suit all, of which few hold.
+MANY_RINGS = [[4, 1, 5, 3, 2], [5, 4, 2, 0, 3], [0, 3, 1, 5, 4], [1, 4, 0, 2, 5], [2, 5, 3, 1, 0], [3, 2, 0, 4, 1]]
 
 
 def every_call():
@@ -18,6 +23,13 @@ def every_call():
         ("hs_part", 1), ("hs_part", 1), ("hs_break", 2, 1), ("hs_break", 2, 1), ("hs_holds",), ("hs_steps",),
         ("hs_nth", 0), ("hs_nth", TOP), ("hs_step",), ("hs_part", 0), ("hs_part", 1), ("hs_settle",), ("hs_settle",),
         ("hs_take", 1), ("hs_take", 2), ("hs_votes", [0] * 6), ("hs_votes", [TOP] * 6), ("hs_out",), ("hs_most",),
+        ("hs_lost",), ("hs_why",), ("hs_may",), ("hs_good",), ("hs_rings",), ("hs_alone",), ("hs_best", 0),
+        ("hs_best", TOP), ("hs_rather", 1), ("hs_rather", 2), ("hs_breakers",), ("hs_with", 0), ("hs_with", 4),
+        ("hs_look", 0), ("hs_look", 4), ("hs_all",), ("hs_back",), ("hs_back",), ("hs_state",), ("hs_again",),
+        ("hs_state",), ("hs_again",), ("hs_again",),
+    ]
+    calls += house(RING_OF_THREE) + [
+        ("hs_lost",), ("hs_rings",), ("hs_alone",), ("hs_best", 0), ("hs_with", 0), ("hs_start", 1), ("hs_back",),
     ]
     return calls
 
@@ -47,7 +59,32 @@ class Form(unittest.TestCase):
             ([8], [7, 1, 2, 1, 0, 0, 0, 0]),
             ([9, 0], [7, 1, 2, 1, 0, 0, 0, 0]),
             ([9, 4294967295], [1, -2]),
+            ([16], [2, 0, 1]),
+            ([17], [2, 1, 0]),
+            ([18], [2, 2, 6]),
+            ([19], [3, 1, 1, 3]),
+            ([20], [7, 0, 2, 1, 3, 0, 0, 0]),
+            ([21], [2, 1, 4]),
+            ([22, 2], [1, 2]),
+            ([22, 4294967295], [1, -2]),
+            ([23, 0], [2, 0, 0]),
+            ([23, 4294967295], [1, -2]),
+            ([24], [3, 0, 0, 0]),
+            ([25, 1], [1, 0]),
+            ([25, 2], [1, -6]),
+            ([25, 3], [1, -2]),
+            ([26, 2], [6, 2, 2, 1, 0, 0, 0]),
+            ([26, 3], [1, -2]),
+            ([27], [7, 1, 2, 1, 0, 0, 0, 0]),
+            ([30], [3, 3, 11, 0]),
             ([3], [2, 2, 0]),
+            ([28], [1, 11]),
+            ([28], [1, 10]),
+            ([30], [3, 3, 10, 2]),
+            ([29], [1, 1]),
+            ([29], [1, 0]),
+            ([29], [1, -2]),
+            ([30], [3, 2, 12, 0]),
         )
         calls = sum([call for call, answer in rows], [])
         self.assertEqual(answers(calls), sum([answer for call, answer in rows], []))
@@ -128,6 +165,28 @@ class Long(unittest.TestCase):
         ):
             self.assertEqual(self.again_and_again(before, call), answer)
 
+    def test_most_work_of_what_tells_of_all_pairings_and_sets(self):
+        for lists, calls_and_answers in (
+            (NONE_OF_SIX, (
+                (("hs_good",), [0, 2, 76]), (("hs_rings",), [1, 1, 5, 4, 6, 3, 2]), (("hs_why",), [0, 0]),
+                (("hs_may",), [0, 0]), (("hs_lost",), [-33]), (("hs_alone",), [-33]), (("hs_best", 5), [-33]),
+                (("hs_rather", 0), [-2]), (("hs_breakers",), [15, 0, 1]),
+            )),
+            (ALL_OTHERS, (
+                (("hs_good",), [1, 3, 76]), (("hs_rings",), [0, 2, 1, 4, 3, 6, 5]), (("hs_why",), [0, 0]),
+                (("hs_lost",), [0, 3]), (("hs_alone",), [0, 0]), (("hs_best", 5), [4]), (("hs_rather", 0), [6, 0]),
+            )),
+            (SLOW_VOTES, ((("hs_good",), [0, 4, 76]),)),
+            (MANY_RINGS, ((("hs_rings",), [0, 2, 1, 4, 3, 6, 5]),)),
+            (TWO_STARS, ((("hs_why",), [2, 2]), (("hs_may",), [4, 60]))),
+        ):
+            for call, answer in calls_and_answers:
+                self.assertEqual(self.again_and_again(house(lists), call), answer)
+
+    def test_back_and_again_by_turns(self):
+        calls = house(LONG_WAY, LONG_WAY_PAIRS) + [("hs_settle",)] + [("hs_back",), ("hs_again",)] * 494
+        self.assertEqual(run(calls)[11:], [[9], [0]] * 494)
+
     def test_all_alone_is_voted_out_by_every_other(self):
         self.assertEqual(self.again_and_again(house(ALL_OTHERS), ("hs_out",)), [75, 0, 0, 0, 0, 6, 5])
 
@@ -145,7 +204,9 @@ class Long(unittest.TestCase):
         self.assertEqual(decode(answers(numbers)), [[0]] + [[0, 0]] * 6 + [[5, 0]] * 993)
 
     def test_it_needs_few_calls_within_one_another(self):
-        calls = encode((house(NONE_OF_SIX) + [("hs_steps",), ("hs_out",), ("hs_most",), ("hs_take", 0)]) * 90)
+        asked = [("hs_steps",), ("hs_out",), ("hs_most",), ("hs_take", 0), ("hs_good",), ("hs_rings",), ("hs_why",)]
+        asked += [("hs_back",)]
+        calls = encode((house(NONE_OF_SIX) + asked) * 66)
         expected = answers(calls)
         limit = sys.getrecursionlimit()
         depth = 0

@@ -127,6 +127,30 @@ class Language(unittest.TestCase):
                 if isinstance(node, ast.Name) and isinstance(node.ctx, ast.Store):
                     self.assertNotIn(node.id, kept, name)
 
+    def test_methods_and_values_of_objects(self):
+        methods = set()
+        given = set()
+        for place, node in self.nodes():
+            if isinstance(node, ast.ClassDef):
+                methods.update(part.name for part in node.body if isinstance(part, ast.FunctionDef))
+            if isinstance(node, ast.Attribute) and isinstance(node.ctx, ast.Store):
+                given.add(node.attr)
+        self.assertEqual(methods & given, set())
+        pythons_own = set().union(*[dir(kind) for kind in (str, int, list, dict, set, bytes, tuple)])
+        self.assertEqual((methods | given) & pythons_own - {"__init__"}, set())
+
+    def test_what_is_walked_at_once(self):
+        walked = []
+        for place, node in self.nodes():
+            if isinstance(node, (ast.For, ast.comprehension)):
+                walked.append(node.iter)
+            if isinstance(node, ast.Call) and isinstance(node.func, ast.Name) and node.args:
+                walked.append(node.args[0])
+        for place, node in self.nodes():
+            if isinstance(node, ast.Call) and isinstance(node.func, ast.Name):
+                if node.func.id in ("zip", "enumerate", "reversed", "range"):
+                    self.assertTrue(any(node is one for one in walked), place)
+
 
 if __name__ == "__main__":
     unittest.main()

@@ -38,7 +38,23 @@ class Start(HouseCase):
             (("hs_most",), [0] + nothing),
             (("hs_take", 0), [0] + nothing),
             (("hs_take", 1), [-2]),
+            (("hs_back",), [0]),
+            (("hs_lost",), [0, 0]),
+            (("hs_why",), [0, 0]),
+            (("hs_may",), [0, 0]),
+            (("hs_good",), [1, 1, 1]),
+            (("hs_rings",), [0] + nothing),
+            (("hs_alone",), [0, 0]),
+            (("hs_best", 0), [-2]),
+            (("hs_rather", 0), [0, 0]),
+            (("hs_rather", 1), [-2]),
+            (("hs_breakers",), [0, 0, 0]),
+            (("hs_with", 0), [-2]),
+            (("hs_look", 0), [-2]),
+            (("hs_all",), [0] + nothing),
+            (("hs_state",), [0, 0, 1]),
             (come([]), [0]),
+            (("hs_state",), [1, 1, 0]),
         )
 
     def test_lists_have_nobody_and_nobody_is_paired(self):
@@ -47,6 +63,9 @@ class Start(HouseCase):
             (("hs_votes", [0] * 6), [0, 0, 0]),
             (("hs_votes", [2, 1, 0, 0, 0, 0]), [-22]),
             (("hs_most",), [0, 0, 0, 0, 0, 0, 0]),
+            (("hs_all",), [0, 0, 0, 0, 0, 0, 0]),
+            (("hs_state",), [6, 0, 0]),
+            *[(("hs_look", student), [0, 0, 0, 0, 0, 0]) for student in range(6)],
             *[(("hs_part", student), [-6]) for student in range(6)],
             *[(wish(student, []), [0, 0]) for student in range(6)],
         )
@@ -70,6 +89,8 @@ class Start(HouseCase):
         self.expect(
             house(ALL_OTHERS, [(0, 1), (2, 3), (4, 5)]),
             (("hs_start", 4), [0]),
+            (("hs_state",), [4, 0, 0]),
+            (("hs_back",), [-2]),
             (("hs_votes", [0] * 6), [0, 0, 0]),
             (("hs_pair", 0, 1), [-33]),
             (("hs_part", 0), [-6]),
@@ -87,7 +108,8 @@ class NotThere(HouseCase):
         for absent in (4, 5, 6, TOP):
             self.refused(before, 4, ("hs_wish", absent, TOP, [TOP] * 5), -2)
             self.refused(before, 4, ("hs_wish", absent, 0, [0] * 5), -2)
-            self.refused(before, 4, ("hs_part", absent), -2)
+            for call in ("hs_part", "hs_best", "hs_with", "hs_look"):
+                self.refused(before, 4, (call, absent), -2)
             for call in ("hs_pair", "hs_break"):
                 self.refused(before, 4, (call, absent, 0), -2)
                 self.refused(before, 4, (call, 0, absent), -2)
